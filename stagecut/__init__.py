@@ -1,0 +1,1 @@
+"""Stagecut: machines told as one step, cut into pipelines, down to gates and a fabric."""
