@@ -3,11 +3,9 @@
 from stagecut.cores import guessed_in, plan_rows, readings, written_in
 from stagecut.scope import Scope
 from stagecut.shapes import PARTS, cut_off, fold_up, with_parts
-from stagecut.words import fitted_width
+from stagecut.words import MOST_BITS, MOST_WIDTH, fitted_width
 
 MOST_STAGES = 8
-MOST_BITS = 6
-MOST_WIDTH = 32
 
 
 def check(tree):

@@ -1,10 +1,8 @@
 """Circuits of word rows: (registers, memories, rows, nexts, stores, outs)."""
 
 from stagecut.shapes import parts
-from stagecut.words import SIGNS, fitted_width, mask
+from stagecut.words import MOST_BITS, MOST_WIDTH, fitted_width, mask
 
-MOST_BITS = 6
-MOST_WIDTH = 32
 ROW_LENGTHS = {
     "lit": 3, "reg": 2, "look": 3, "not": 2, "op": 4, "pick": 4, "wide": 3, "part": 4, "join": 3,
 }
@@ -73,9 +71,7 @@ def row_width(circuit, widths, row):
     if kind == "look":
         if not is_below(row[1], len(circuit[1])) or widths[row[2]] != circuit[1][row[1]][0]:
             return 0
-    if kind == "op" and row[1] not in SIGNS:
-        return 0
-    if kind in ("wide", "part") and not all([type(part) is int for part in row[1:]]):
+    if kind in ("wide", "part") and not all([type(part) is int for part in row[2:]]):
         return 0
     return known_row_width(circuit, widths, row)
 

@@ -66,7 +66,7 @@ def can_follow(place, word):
         return False
     own = LINE_WORDS.index(word)
     if own > NEXT_AT:
-        return place >= NEXT_AT and place != TOLD_AT and own >= place
+        return NEXT_AT <= place < TOLD_AT
     return own >= place and place != NEXT_AT
 
 

@@ -2,6 +2,7 @@
 
 from stagecut.digits import DIGITS, is_short_number
 from stagecut.errors import BadCharacter, BadNumber
+from stagecut.words import MOST_WIDTH
 
 LETTERS = "abcdefghijklmnopqrstuvwxyzABCDEFGHIJKLMNOPQRSTUVWXYZ"
 KEYWORDS = ("machine", "reg", "file", "rom", "at", "let", "guess", "when", "wide", "part", "join")
@@ -80,7 +81,7 @@ def number_token(text, row, column):
             raise BadNumber(row, column)
         return ("number", worth, row, column)
     width = small_number(width_digits)
-    if worth is None or width is None or not 1 <= width <= 32 or worth >= 1 << width:
+    if worth is None or width is None or not 1 <= width <= MOST_WIDTH or worth >= 1 << width:
         raise BadNumber(row, column)
     return ("literal", (worth, width), row, column)
 

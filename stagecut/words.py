@@ -1,5 +1,9 @@
 """What the operations give, and the widths of what they give."""
 
+MOST_WIDTH = 32
+# Of the addresses of files, roms and memories.
+MOST_BITS = 6
+
 SAME_WIDTH = ("+", "-", "*", "&", "|", "^")
 TESTS = ("==", "<")
 SHIFTS = ("<<", ">>")
@@ -85,10 +89,10 @@ def fitted_width(node, widths):
     if kind == "not":
         return widths[0]
     if kind == "wide":
-        return node[2] if 1 <= node[2] <= 32 else 0
+        return node[2] if 1 <= node[2] <= MOST_WIDTH else 0
     if kind == "part":
         return node[3] - node[2] + 1 if 0 <= node[2] <= node[3] < widths[0] else 0
-    return widths[0] + widths[1] if widths[0] + widths[1] <= 32 else 0
+    return widths[0] + widths[1] if widths[0] + widths[1] <= MOST_WIDTH else 0
 
 
 def op_width(sign, one, other):

@@ -150,6 +150,8 @@ class Wrong(unittest.TestCase):
             self.changed(at + 1, line.replace(" ", "  ", 1))
             self.changed(at + 1, line + " x")
         self.changed(1, "register")
+        for line in ("row op", "row op +", "row op + 0", "row reg", "row lit", "row pick"):
+            self.changed(9, line)
         self.changed(3, "memory 2")
 
     def test_parts(self):

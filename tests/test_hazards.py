@@ -24,6 +24,8 @@ class Kinds(unittest.TestCase):
     def test_front(self):
         self.assertEqual(how("at 0: let x = a; guess a = b; at 1: at 2: a := 0w8;"), (2, "front"))
         self.assertEqual(how("at 0: at 1: let x = a; guess a = a; at 2: a := b;"), (1, "front"))
+        # A file is not guessed, whatever registers are.
+        self.assertEqual(how("at 0: let x = f[0w1]; guess a = b; at 1: a := 0w8; f[c] := b;"), (1, "passed"))
 
     def test_fixed(self):
         self.assertEqual(how("at 0: at 1: let x = a;"), (0, "fixed"))
