@@ -3,6 +3,7 @@
 from stagecut.circuit import ROW_LENGTHS, is_circuit
 from stagecut.digits import is_short_number
 from stagecut.errors import BadLine
+from stagecut.lines import text_of, whole_lines
 from stagecut.words import SIGNS
 
 # The first words of lines, in the order in which they stand.
@@ -21,26 +22,21 @@ def print_circuit(circuit):
     lines.append(("next", *nexts))
     lines.extend([("store", *part) for part in stores])
     lines.append(("told", *outs))
-    texts = [" ".join([str(part) for part in line]) for line in lines]
-    return "".join([text + "\n" for text in texts])
+    return text_of([" ".join([str(part) for part in line]) for line in lines])
 
 
 def parse_circuit(text):
     """The circuit that a text tells."""
-    lines = text.split("\n")
-    if lines[-1] != "":
-        raise BadLine(len(lines))
-    if len(lines) == 1:
-        raise BadLine(1)
-    found = read_lines(lines[:-1])
+    lines = whole_lines(text)
+    found = read_lines(lines)
     if not found["told"]:
-        raise BadLine(len(lines) - 1)
+        raise BadLine(len(lines))
     circuit = (
         tuple(found["register"]), tuple(found["memory"]), tuple(found["row"]),
         found["next"][0], tuple(found["store"]), found["told"][0],
     )
     if not is_circuit(circuit):
-        raise BadLine(len(lines) - 1)
+        raise BadLine(len(lines))
     return circuit
 
 

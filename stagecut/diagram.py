@@ -1,8 +1,9 @@
 """Which instruction is in which slot in each cycle."""
 
-from stagecut.digits import DIGITS, is_number
+from stagecut.digits import DIGITS
 from stagecut.errors import BadLine
 from stagecut.flow import Flow
+from stagecut.lines import cycles_told, text_of
 
 EMPTY = -1
 NOWHERE = "."
@@ -25,7 +26,7 @@ def print_diagram(rows):
     lines = [f"cycles {len(rows)}"]
     for number in range(greatest + 1):
         lines.append(" ".join([slot_text(row, number) for row in rows]))
-    return "".join([line + "\n" for line in lines])
+    return text_of(lines)
 
 
 def slot_text(row, number):
@@ -38,7 +39,7 @@ def read_diagram(text, slots):
     if not text.endswith("\n"):
         raise BadLine(1)
     lines = text.split("\n")[:-1]
-    cycles = read_head(lines[0])
+    cycles = cycles_told(lines[0])
     # For each cycle and slot that is not empty the instruction in it.
     held = {}
     for number, line in enumerate(lines[1:]):
@@ -49,14 +50,6 @@ def read_diagram(text, slots):
     for cycle in range(cycles):
         rows.append(tuple([held.get((cycle, slot), EMPTY) for slot in range(slots)]))
     return tuple(rows)
-
-
-def read_head(line):
-    """The number of cycles that the first line tells."""
-    word, _, number = line.partition(" ")
-    if word != "cycles" or not is_number(number):
-        raise BadLine(1)
-    return int(number)
 
 
 def take_line(held, found, number, slots):

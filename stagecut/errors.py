@@ -42,3 +42,11 @@ class BadLine(CutError):
     def __init__(self, line):
         CutError.__init__(self, f"line {line}")
         self.line = line
+
+
+class BadImage(CutError):
+    """A row of bytes that is not that of one thing."""
+
+
+class TooMany(CutError):
+    """More nodes would be made than are allowed."""

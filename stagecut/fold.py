@@ -1,49 +1,24 @@
 """Circuits without rows and registers that are not needed."""
 
-from stagecut.circuit import known_row_width
+from stagecut.rows import Rows
 from stagecut.shapes import parts, with_parts
-from stagecut.shorter import shorter
 
 
 class Rewritten:
-    """The rows of a circuit made simpler, none of them there twice; and where each old row is now.
+    """The rows of a circuit made shorter, none of them there twice; and where each old row is now.
 
     The registers in fixed have their first value in all cycles.
     """
 
     def __init__(self, circuit, fixed):
-        self.rows = []
+        self._rows = Rows(circuit[0], circuit[1])
         self.places = []
-        self._circuit = circuit
-        self._fixed = fixed
-        self._widths = []
-        self._numbers = {}
         for row in circuit[2]:
-            self.places.append(self._place(row))
-
-    def _place(self, row):
-        """The number of the new row that has the value of an old one."""
-        kind = row[0]
-        if kind == "reg" and row[1] in self._fixed:
-            width, first = self._circuit[0][row[1]]
-            return self._number(("lit", first, width))
-        sides = [self.places[side] for side in parts(row)]
-        if kind in ("lit", "reg", "look"):
-            return self._number(with_parts(row, sides))
-        known = [self.rows[side][1] if self.rows[side][0] == "lit" else None for side in sides]
-        alike = len(sides) > 1 and sides[-1] == sides[-2]
-        found = shorter(row, known, [self._widths[side] for side in sides], alike)
-        if found is None:
-            return self._number(with_parts(row, sides))
-        return sides[found[1]] if found[0] == "same" else self._number(found)
-
-    def _number(self, row):
-        """The number of a new row, which is made if it is not there."""
-        if row not in self._numbers:
-            self._numbers[row] = len(self.rows)
-            self._widths.append(known_row_width(self._circuit, self._widths, row))
-            self.rows.append(row)
-        return self._numbers[row]
+            if row[0] == "reg" and row[1] in fixed:
+                width, first = circuit[0][row[1]]
+                row = ("lit", first, width)
+            self.places.append(self._rows.placed(with_parts(row, [self.places[side] for side in parts(row)])))
+        self.rows = self._rows.rows
 
 
 def fold(circuit):

@@ -17,8 +17,9 @@ class Schedule:
         self.plan = plan
         # For each stage pairs of a place and the program that gives what belongs there.
         self.jobs = [[] for _ in range(plan[0])]
-        # The stage in which what belongs to a place is known.
+        # The stage in which what belongs to a place is known, and the core that tells it.
         self.known = {}
+        self.cores = {}
         # The numbers of the rows that write registers and files.
         self.set_rows = {}
         self.put_rows = {}
@@ -48,6 +49,7 @@ class Schedule:
     def _keep(self, place, core, stage):
         """Keeps the job that works out what belongs to a place, in the stage in which it is known."""
         self.known[place] = stage
+        self.cores[place] = core
         self.jobs[stage].append((place, program(self.plan, core)))
 
     def stage_of(self, at):

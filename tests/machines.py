@@ -260,3 +260,23 @@ def made_contents(seed, circuit):
     return tuple(
         tuple(chance.getrandbits(width) for _ in range(1 << bits)) for bits, width in circuit[1]
     )
+
+
+def made_net(seed, latches=None, ands=20):
+    """A net, with ands of the constant, of one node twice and that stand twice among others."""
+    chance = random.Random(seed)
+    latches = chance.randint(0, 5) if latches is None else latches
+    firsts = tuple(chance.randint(0, 1) for _ in range(latches))
+    found = []
+    for at in range(ands if latches else min(ands, 3)):
+        top = 2 * (1 + latches + at)
+        if found and chance.random() < 0.1:
+            one, other = chance.choice(found)
+            found.append((other, one))
+        else:
+            # Mostly nodes that are not far, so that nets are deep.
+            low = 0 if chance.random() < 0.5 else max(0, top - 12)
+            found.append((chance.randrange(low, top), chance.randrange(low, top)))
+    top = 2 * (1 + latches + len(found))
+    nexts = tuple(chance.randrange(top) for _ in firsts)
+    return (firsts, tuple(found), nexts, tuple(chance.randrange(top) for _ in range(chance.randint(0, 4))))

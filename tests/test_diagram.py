@@ -115,6 +115,12 @@ class Wrong(unittest.TestCase):
         self.bad("cycles 02\n0\n", 1)
         self.bad("cycles 1000000000000\n0 1\n", 2)
 
+    def test_many_digits(self):
+        """A number of thousands of digits is a number; the line with too few parts is what is wrong."""
+        for many in (3000, 4300, 4301, 5000, 20000):
+            self.bad("cycles " + "9" * many + "\n.\n", 2)
+            self.bad("cycles 0" + "9" * many + "\n.\n", 1)
+
 
 if __name__ == "__main__":
     unittest.main()

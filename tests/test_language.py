@@ -28,11 +28,20 @@ FUNCTIONS = {
     "circuit_run": ["run_circuit(circuit, contents, cycles)"],
     "fold": ["fold(circuit)"],
     "circuit_text": ["print_circuit(circuit)", "parse_circuit(text)"],
+    "waves": ["changes(told)", "filled(found, cycles)", "print_waves(names, told)", "read_waves(text)"],
+    "build": ["build(plan)", "record_of(plan, told)"],
+    "build_step": ["build_step(plan)", "watch(plan)", "watch_contents(plan, contents)"],
+    "recut": ["recut(tree, many)", "heaviest(tree)"],
+    "gates": ["is_net(thing)", "run_net(net, cycles)", "cycle_of(net, state)"],
+    "blast": ["blast(circuit, contents)", "words_told(circuit, told)"],
+    "events": ["run_events(net, cycles)"],
+    "net_image": ["write_net(net)", "read_net(row)"],
 }
 CLASSES = {
     "errors": {
         "CutError": {}, "TextError": {"__init__": "(self, row, column)"}, "BadCharacter": {}, "BadNumber": {},
         "Unexpected": {}, "Unfit": {"__init__": "(self, stage, index, word)"}, "BadLine": {"__init__": "(self, line)"},
+        "BadImage": {},
     },
     "pipeline": {
         "Pipeline": {
@@ -41,6 +50,8 @@ CLASSES = {
     },
 }
 
+# What may be imported from elsewhere.
+LIBRARY = {"heapq": ("heappush", "heappop"), "itertools": ("combinations",)}
 BUILTINS = """len range enumerate zip min max sum abs sorted reversed int str bool bytes list tuple dict set frozenset
     isinstance ord repr any all divmod type ValueError TypeError KeyError IndexError LookupError Exception""".split()
 METHODS = """append clear copy count endswith extend find get index insert isalnum isalpha isdigit islower isspace
@@ -134,13 +145,16 @@ class Files(unittest.TestCase):
 class Rules(unittest.TestCase):
     def test_imports(self):
         found = trees()
-        ahead = {name: [module.removeprefix("stagecut.") for module, _, _ in imported(tree)]
+        ahead = {name: [module.removeprefix("stagecut.") for module, _, _ in imported(tree) if module not in LIBRARY]
                  for name, tree in found.items()}
         for name, tree in found.items():
             for module, word, other in imported(tree):
+                self.assertIsNone(other)
+                if module in LIBRARY:
+                    self.assertIn(word, LIBRARY[module], name)
+                    continue
                 self.assertIn(module.removeprefix("stagecut."), found, name)
                 self.assertIn(word, own_names(found[module.removeprefix("stagecut.")]), name)
-                self.assertIsNone(other)
         done = []
         while len(done) < len(found):
             more = [name for name in found if name not in done and all(one in done for one in ahead[name])]
@@ -184,6 +198,7 @@ class Rules(unittest.TestCase):
         fields = {node.attr for tree in trees().values() for node in ast.walk(tree)
                   if isinstance(node, ast.Attribute) and isinstance(node.ctx, ast.Store)}
         self.assertFalse(fields & set("items keys values pop update append clear extend insert remove sort".split()))
+        self.assertFalse(fields & own_methods)
         for name, tree in trees().items():
             known = own_names(tree) + [word for _, word, _ in imported(tree)] + local_names(tree)
             for node in ast.walk(tree):

@@ -2,13 +2,22 @@
 
 import unittest
 
-from machines import made_machine, made_state
+from machines import made_circuit, made_contents, made_machine, made_net, made_roms, made_state
+from stagecut.blast import blast, words_told
+from stagecut.build import build, record_of
+from stagecut.build_step import build_step, watch, watch_contents
 from stagecut.check import check
+from stagecut.circuit_run import run_circuit
+from stagecut.events import run_events
+from stagecut.gates import cycle_of, run_net
+from stagecut.net_image import read_net, write_net
 from stagecut.onestep import start, step, steps
 from stagecut.parser import parse, parse_expr
 from stagecut.pipeline import Pipeline, drained
 from stagecut.printing import print_expr, print_machine
+from stagecut.recut import heaviest, recut
 from stagecut.simplify import simplify
+from stagecut.waves import changes, filled, print_waves, read_waves
 
 DEEP = 40
 # What an expression is put into, again and again.
@@ -46,6 +55,17 @@ class Nested(unittest.TestCase):
         self.assertEqual(steps(check(simplify(tree)), state, 5), (records, end))
         self.assertEqual(records[3][0][0], 3)
         self.assertEqual(drained(plan, state, 5), (records, end))
+        self.judge_circuits(plan, records)
+        self.assertEqual(recut(tree, 1), tree)
+        self.assertEqual(heaviest(tree), sum(heaviest(("m", (), ((row,),))) for row in tree[2][0]))
+
+    def judge_circuits(self, plan, records):
+        contents = start(plan, ())[1]
+        for circuit in (build(plan), build_step(plan)):
+            told = run_circuit(circuit, contents, len(records))
+            self.assertEqual(tuple(record_of(plan, row) for row in told), records)
+            bits = run_net(blast(circuit, contents), len(records))
+            self.assertEqual(tuple(words_told(circuit, row) for row in bits), told)
 
 
 class Large(unittest.TestCase):
@@ -66,6 +86,24 @@ class Large(unittest.TestCase):
         self.assertEqual(len(records), 5)
         self.assertEqual((records, end), steps(plan, state, 5))
         self.assertEqual(end[0][0], 5 * sum(at % 7 for at in range(1, 199)))
+        self.judge_circuits(plan, (), records, 40)
+
+    def judge_circuits(self, plan, roms, records, cycles):
+        """The circuit and its net are done with these records first."""
+        contents = start(plan, roms)[1]
+        circuit = build(plan)
+        told = run_circuit(circuit, contents, cycles)
+        done = [record_of(plan, row) for row in told if row[0]]
+        self.assertEqual(tuple(done[:len(records)]), records)
+        net = blast(circuit, contents)
+        bits = run_net(net, cycles)
+        self.assertEqual(tuple(words_told(circuit, row) for row in bits), told)
+        self.assertEqual(run_events(net, cycles)[0], bits)
+        self.assertEqual(read_net(write_net(net)), net)
+        watched = run_circuit(watch(plan), watch_contents(plan, contents), cycles)
+        self.assertEqual(watched, tuple((row[0], 0) for row in told))
+        steps_told = run_circuit(build_step(plan), contents, len(records))
+        self.assertEqual(tuple(record_of(plan, row) for row in steps_told), records)
 
     def test_many_made_rows(self):
         for seed in range(3):
@@ -76,6 +114,8 @@ class Large(unittest.TestCase):
             state = made_state(seed, plan)
             records, end = drained(plan, state, 6)
             self.assertEqual((records, end), steps(plan, state, len(records)))
+            roms = made_roms(seed, plan)
+            self.judge_circuits(plan, roms, steps(plan, start(plan, roms), 4)[0], 60)
 
 
 class Kept(unittest.TestCase):
@@ -89,6 +129,35 @@ class Kept(unittest.TestCase):
             for _ in range(12):
                 self.only_plain(pipeline.cycle())
                 self.only_plain(pipeline.state())
+
+    def test_what_circuits_and_nets_tell_is_plain(self):
+        for seed in range(20):
+            plan = check(made_machine(seed))
+            for circuit in (build(plan), build_step(plan), watch(plan), made_circuit(seed)):
+                self.only_integers(circuit)
+                contents = made_contents(seed, circuit)
+                told = run_circuit(circuit, contents, 5)
+                net = blast(circuit, contents)
+                self.only_integers(net)
+                self.only_integers(words_told(circuit, run_net(net, 1)[0]))
+                self.only_integers(run_events(net, 3))
+                self.only_integers(changes(told))
+                self.only_integers(filled(changes(told), 5))
+                names = tuple("a" for _ in circuit[5])
+                self.only_integers(read_waves(print_waves(names, told)))
+                self.only_integers(record_of(plan, run_circuit(build_step(plan), start(plan, made_roms(seed, plan))[1],
+                                                               1)[0]))
+            net = made_net(seed)
+            self.only_integers(cycle_of(net, net[0]))
+            self.only_integers(read_net(write_net(net)))
+
+    def only_integers(self, thing):
+        """Tuples, strings, integers and None."""
+        if type(thing) is tuple:
+            for part in thing:
+                self.only_integers(part)
+        else:
+            self.assertIn(type(thing), (int, str, type(None)))
 
     def only_plain(self, thing):
         """Tuples, strings, integers and None; truths only where roms are told."""
