@@ -45,7 +45,7 @@ class Wires:
 
     def net(self, latches, nexts, outs):
         """The net of the ands that these literals hang on; latches has the leaf and the first value of each."""
-        needed = self.hung_on(nexts + outs)
+        needed = self.hung_on(nexts + outs, {})
         own = {0: 0}
         for leaf, _ in latches:
             own[leaf >> 1] = 2 * len(own)
@@ -54,18 +54,20 @@ class Wires:
             if self.nodes[node] is not None:
                 own[node] = 2 * len(own)
                 ands.append(tuple([own[side >> 1] ^ (side & 1) for side in self.nodes[node]]))
-        firsts = tuple([first for _, first in latches])
-        new_nexts = tuple([own[literal >> 1] ^ (literal & 1) for literal in nexts])
-        return (firsts, tuple(ands), new_nexts, tuple([own[literal >> 1] ^ (literal & 1) for literal in outs]))
+        ends = [tuple([own[literal >> 1] ^ (literal & 1) for literal in literals]) for literals in (nexts, outs)]
+        return (tuple([first for _, first in latches]), tuple(ands), ends[0], ends[1])
 
-    def hung_on(self, literals):
-        """The nodes that literals hang on, in a dict."""
+    def hung_on(self, literals, nexts):
+        """The nodes that literals hang on, in a dict; also by way of the next literals that leaves have."""
         found = {}
         todo = [literal >> 1 for literal in literals]
         while todo:
             node = todo.pop()
-            if node not in found:
-                found[node] = True
-                if self.nodes[node] is not None:
-                    todo.extend([side >> 1 for side in self.nodes[node]])
+            if node in found:
+                continue
+            found[node] = True
+            if self.nodes[node] is not None:
+                todo.extend([side >> 1 for side in self.nodes[node]])
+            elif 2 * node in nexts:
+                todo.append(nexts[2 * node] >> 1)
         return found

@@ -36,12 +36,26 @@ FUNCTIONS = {
     "blast": ["blast(circuit, contents)", "words_told(circuit, told)"],
     "events": ["run_events(net, cycles)"],
     "net_image": ["write_net(net)", "read_net(row)"],
+    "net_text": ["print_net(net)", "parse_net(text)"],
+    "shrink": ["shrink(net)"],
+    "balance": ["balance(net)"],
+    "levels": ["levels(net)", "depth(net)", "longest(net)", "level_counts(net)"],
+    "compare": ["difference(one, other, most)"],
+    "same_step": ["same_step(one, other, most)"],
+    "satisfy": ["satisfy(many, clauses)"],
 }
 CLASSES = {
     "errors": {
         "CutError": {}, "TextError": {"__init__": "(self, row, column)"}, "BadCharacter": {}, "BadNumber": {},
         "Unexpected": {}, "Unfit": {"__init__": "(self, stage, index, word)"}, "BadLine": {"__init__": "(self, line)"},
-        "BadImage": {},
+        "BadImage": {}, "TooMany": {},
+    },
+    "diagrams": {
+        "Diagrams": {
+            "__init__": "(self, most)", "variable": "(self, at)", "pick": "(self, test, one, other)",
+            "no": "(self, part)", "both": "(self, one, other)", "differ": "(self, one, other)",
+            "least": "(self, part, many)", "count": "(self, part, many)",
+        },
     },
     "pipeline": {
         "Pipeline": {
@@ -51,7 +65,7 @@ CLASSES = {
 }
 
 # What may be imported from elsewhere.
-LIBRARY = {"heapq": ("heappush", "heappop"), "itertools": ("combinations",)}
+LIBRARY = {"heapq": ("heappush", "heappop", "heapify"), "itertools": ("combinations",)}
 BUILTINS = """len range enumerate zip min max sum abs sorted reversed int str bool bytes list tuple dict set frozenset
     isinstance ord repr any all divmod type ValueError TypeError KeyError IndexError LookupError Exception""".split()
 METHODS = """append clear copy count endswith extend find get index insert isalnum isalpha isdigit islower isspace
