@@ -49,8 +49,6 @@ class Search:
     def _start(self, clause):
         """Takes a clause in; False if it clashes at once."""
         literals = sorted({inner_literal(literal): True for literal in clause})
-        if any([at + 1 < len(literals) and literals[at + 1] == literal ^ 1 for at, literal in enumerate(literals)]):
-            return True
         if len(literals) > 1:
             self._watch(literals)
             return True

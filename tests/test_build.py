@@ -95,6 +95,17 @@ class Building(unittest.TestCase):
         found, pipeline = self.judge(plan_of(text), cycles=60)
         self.assertGreater(pipeline.waited[0], 0)
 
+    def test_waiting_behind_the_stage_in_which_it_is_known(self):
+        """What an instruction that waits worked out ahead of its slot is known; what it would work out there is not."""
+        text = ("reg a 8; reg b 8; reg c 8; at 0: let x = a; at 1: let z = c; at 2: let y = x + 1w8; at 3: let w = b; "
+                "at 4: at 5: at 6: a := y; c := z + 1w8; b := b * 3w8 + w + 1w8 when part(z, 0, 0);")
+        _, pipeline = self.judge(plan_of(text), cycles=60)
+        self.assertGreater(pipeline.waited[3], 0)
+        text = ("reg a 8; reg b 8; at 0: let x = a; at 1: at 2: let y = x + b; at 3: at 4: a := y when part(y, 0, 0); "
+                "at 5: b := b * 3w8 + 1w8;")
+        _, pipeline = self.judge(plan_of(text), cycles=60)
+        self.assertGreater(min(pipeline.waited[0], pipeline.waited[2]), 0)
+
     def test_guesses(self):
         for stages in range(2, 9):
             for guessed in range(stages - 1):

@@ -3,19 +3,26 @@
 import unittest
 
 from machines import made_circuit, made_contents, made_machine, made_net, made_roms, made_state
+from stagecut.balance import balance
 from stagecut.blast import blast, words_told
 from stagecut.build import build, record_of
 from stagecut.build_step import build_step, watch, watch_contents
 from stagecut.check import check
 from stagecut.circuit_run import run_circuit
+from stagecut.compare import difference
 from stagecut.events import run_events
 from stagecut.gates import cycle_of, run_net
+from stagecut.levels import depth, level_counts, longest
 from stagecut.net_image import read_net, write_net
+from stagecut.net_text import parse_net, print_net
 from stagecut.onestep import start, step, steps
 from stagecut.parser import parse, parse_expr
 from stagecut.pipeline import Pipeline, drained
 from stagecut.printing import print_expr, print_machine
 from stagecut.recut import heaviest, recut
+from stagecut.same_step import same_step
+from stagecut.satisfy import satisfy
+from stagecut.shrink import shrink
 from stagecut.simplify import simplify
 from stagecut.waves import changes, filled, print_waves, read_waves
 
@@ -64,8 +71,10 @@ class Nested(unittest.TestCase):
         for circuit in (build(plan), build_step(plan)):
             told = run_circuit(circuit, contents, len(records))
             self.assertEqual(tuple(record_of(plan, row) for row in told), records)
-            bits = run_net(blast(circuit, contents), len(records))
+            net = blast(circuit, contents)
+            bits = run_net(net, len(records))
             self.assertEqual(tuple(words_told(circuit, row) for row in bits), told)
+            self.assertEqual(run_net(balance(shrink(net)), len(records)), bits)
 
 
 class Large(unittest.TestCase):
@@ -100,6 +109,13 @@ class Large(unittest.TestCase):
         self.assertEqual(tuple(words_told(circuit, row) for row in bits), told)
         self.assertEqual(run_events(net, cycles)[0], bits)
         self.assertEqual(read_net(write_net(net)), net)
+        self.assertEqual(parse_net(print_net(net)), net)
+        small = shrink(net)
+        self.assertEqual(run_net(small, cycles), bits)
+        flat = balance(small)
+        self.assertEqual(run_net(flat, cycles), bits)
+        self.assertEqual(len(longest(flat)), depth(flat) + 1)
+        self.assertEqual(sum(level_counts(flat)), len(flat[1]))
         watched = run_circuit(watch(plan), watch_contents(plan, contents), cycles)
         self.assertEqual(watched, tuple((row[0], 0) for row in told))
         steps_told = run_circuit(build_step(plan), contents, len(records))
@@ -147,9 +163,21 @@ class Kept(unittest.TestCase):
                 self.only_integers(read_waves(print_waves(names, told)))
                 self.only_integers(record_of(plan, run_circuit(build_step(plan), start(plan, made_roms(seed, plan))[1],
                                                                1)[0]))
-            net = made_net(seed)
+            net = made_net(seed, latches=4)
             self.only_integers(cycle_of(net, net[0]))
             self.only_integers(read_net(write_net(net)))
+            self.only_integers(parse_net(print_net(net)))
+            self.only_integers(shrink(net))
+            self.only_integers(balance(net))
+            self.only_integers((depth(net), longest(net), level_counts(net)))
+            other = (*net[:2], tuple(literal ^ 1 for literal in net[2]), net[3])
+            self.only_integers(difference(net, other, 1000))
+            turned = parse("machine m reg a 3; at 0: a := a + 1w3;"), parse("machine m reg a 3; at 0: a := ~a;")
+            self.only_integers(same_step(check(turned[0]), check(turned[1]), 1000))
+        for clauses in (((1, 2), (-1,)), ((1,), (-1, 2), (-2, -1))):
+            values, proof = satisfy(2, clauses)
+            self.assertTrue(values is None or all(type(worth) is bool for worth in values))
+            self.only_integers(proof)
 
     def only_integers(self, thing):
         """Tuples, strings, integers and None."""

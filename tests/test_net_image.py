@@ -111,6 +111,15 @@ class Wrong(unittest.TestCase):
         self.bad([128])
         self.bad([255] * 20)
 
+    def test_what_is_no_byte(self):
+        for at in range(len(ROW)):
+            for part in (-1, 256, ROW[at] + 256, ROW[at] - 256, ROW[at] + 128 * 256):
+                self.bad(ROW[:at] + [part] + ROW[at + 1:])
+                self.bad(ROW[:at] + [part, 0] + ROW[at + 1:])
+        for part in (0, 256, 128 + 256, 128 - 256, 128 + 1024):
+            self.bad([0, 0, part, 1] + [1] * 128)
+        self.assertEqual(read_net([0, 0, 128, 1] + [1] * 128), ((), (), (), (1,) * 128))
+
     def test_one_row_for_one_net(self):
         """Whatever is read is written as the same row again."""
         for at in range(len(ROW)):

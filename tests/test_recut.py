@@ -158,6 +158,7 @@ class Cutting(unittest.TestCase):
         tree = parse("machine m reg a 8; at 0: a := a;")
         self.assertEqual(stage_rows(recut(tree, 8)), [0] * 7 + [1])
         self.assertIsNone(recut(tree, 9))
+        self.assertIsNone(recut(tree, 0))
 
     def test_arguments_stay(self):
         tree = made_machine(3, rows=1, stages=4)

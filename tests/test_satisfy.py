@@ -119,6 +119,8 @@ class Satisfying(unittest.TestCase):
         values, proof = satisfy(many, clauses)
         self.assertIsNone(values)
         self.assertEqual(proof[-1], ())
+        # What is learned is of use: without that, far more clauses would be needed.
+        self.assertLess(len(proof), 20000)
         # Some of its many clauses.
         known = [frozenset(clause) for clause in clauses + proof]
         for at in range(0, len(proof), len(proof) // 12):
