@@ -1,6 +1,7 @@
 """Nets compared for every state."""
 
 from stagecut.diagrams import FALSE, Diagrams
+from stagecut.errors import TooMany
 
 
 class Drawn:
@@ -45,8 +46,17 @@ def ahead(net, node):
 
 def difference(one, other, most):
     """The first of the next and told literals that differs, with the least state for it; None if none does."""
+    try:
+        return difference_by(one, other, most, met_latches((one, other)))
+    except TooMany:
+        # Some nets have small diagrams only where the variables are in the order of the latches.
+        return difference_by(one, other, most, list(range(1, 1 + len(one[0]))))
+
+
+def difference_by(one, other, most, latches):
+    """What difference gives, with variables for these latches in this order."""
     diagrams = Diagrams(most)
-    variables = {latch: at for at, latch in enumerate(met_latches((one, other)))}
+    variables = {latch: at for at, latch in enumerate(latches)}
     first = Drawn(diagrams, one, variables)
     second = Drawn(diagrams, other, variables)
     for at, (literal, other_literal) in enumerate(zip(one[2] + one[3], other[2] + other[3])):

@@ -245,7 +245,7 @@ class Search:
             if level_count > FEW_LEVELS:
                 clause.clear()
         self._learned = [row for row in learned if row[2]]
-        self._watched = [[clause for clause in clauses if clause] for clauses in self._watched]
+        self._watched = [[kept for kept in clauses if kept] for clauses in self._watched]
 
 
 def inner_literal(literal):

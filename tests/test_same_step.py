@@ -137,6 +137,13 @@ class Steps(unittest.TestCase):
 
 
 class Limits(unittest.TestCase):
+    def test_orders_of_variables(self):
+        """Machines of which only the one or the other order of the variables has small diagrams."""
+        sums = plan_of("reg a 16; reg b 16; at 0: a := a + b;")
+        others = check(made_machine(68))
+        for plan in (sums, others):
+            self.assertIsNone(same_step(plan, plan, 1000 if plan == others else 3000))
+
     def test_few_nodes(self):
         one = plan_of("reg a 8; reg b 8; at 0: a := a + b;")
         other = plan_of("reg a 8; reg b 8; at 0: a := b + a;")
