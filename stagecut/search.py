@@ -111,7 +111,7 @@ class Search:
         while self._looked_at < len(self._trail):
             failed = self._trail[self._looked_at] ^ 1
             self._looked_at += 1
-            clauses = watched[failed]
+            clauses = list(watched[failed])
             kept = []
             watched[failed] = kept
             for at, clause in enumerate(clauses):
