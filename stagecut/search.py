@@ -13,14 +13,15 @@ KEPT_MORE = 500
 # Clauses over so few levels are never dropped.
 FEW_LEVELS = 2
 # What a variable that clashes gets at first, and how great it becomes before all are made smaller.
-FIRST_BUMP = 1 << 10
-GREAT_BUMP = 1 << 60
+FIRST_BUMP = 1024
+GREAT_BUMP = 1000000000000000000
 SMALLER = 40
 
 
 class Search:
-    """The values so far, and the clauses, each found by two of its literals of which none fails while the other one
-    does not hold.
+    """The values so far, and the clauses.
+
+    Each clause of two or more literals is watched by its first two: as long as neither fails, it tells nothing.
     """
 
     def __init__(self, many, clauses):
@@ -92,7 +93,7 @@ class Search:
                 return False
 
     def _watch(self, clause):
-        """Lets a clause be found by its first two literals."""
+        """Lets a clause be watched by its first two literals."""
         self._watched[clause[0]].append(clause)
         self._watched[clause[1]].append(clause)
 
@@ -152,7 +153,7 @@ class Search:
             self._back_to(0)
             self._take(learned[0], None)
             return
-        # The literal that failed last but one is the other one by which the clause is found.
+        # The literal that failed last but one is the other one by which the clause is watched.
         latest = max(list(range(1, len(learned))), key=lambda at: self._levels[learned[at] >> 1])
         learned[1], learned[latest] = learned[latest], learned[1]
         level_count = len({self._levels[literal >> 1]: True for literal in learned})
