@@ -16,6 +16,8 @@ FEW_LEVELS = 2
 FIRST_BUMP = 1024
 GREAT_BUMP = 1000000000000000000
 SMALLER = 40
+# What stands in the place of that for a variable that is not in the queue.
+NOT_QUEUED = -1
 
 
 class Search:
@@ -39,17 +41,20 @@ class Search:
         # How much each variable has clashed, and the queue of variables by that.
         self._clashed = [0] * (many + 1)
         self._bump = FIRST_BUMP
-        self._queued = [0] * (many + 1)
-        self._queue = [(0, at) for at in range(1, many + 1)]
+        self._queued = [NOT_QUEUED] * (many + 1)
+        self._queue = []
+        # The variables that are tried.
+        self._aims = {}
+        self.aim_at({at: True for at in range(1, many + 1)})
         self._learned = []
         self._kept = KEPT_AT_FIRST
         # The clauses that were learned, in order, with the literals as they are told from outside.
         self.proof = []
-        self._is_lost = not all([self._start(clause) for clause in clauses])
+        self.is_lost = not all([self._start([inner_literal(literal) for literal in clause]) for clause in clauses])
 
     def _start(self, clause):
         """Takes a clause in; False if it clashes at once."""
-        literals = sorted({inner_literal(literal): True for literal in clause})
+        literals = sorted({literal: True for literal in clause})
         if len(literals) > 1:
             self._watch(literals)
             return True
@@ -63,34 +68,80 @@ class Search:
         """True if a variable has the value True."""
         return self._held[2 * at] > 0
 
+    def is_open(self, at):
+        """True if a variable has no value."""
+        return self._held[2 * at] == 0
+
+    def aim_at(self, variables):
+        """Lets only these variables be tried from now on."""
+        self._back_to(0)
+        for at in self._aims:
+            self._queued[at] = NOT_QUEUED
+        self._aims = variables
+        self._fill_queue()
+
+    def add(self, clause):
+        """Takes in a clause that follows from those that are there, and tells it in the proof."""
+        self._back_to(0)
+        self.proof.append(clause)
+        literals = [inner_literal(literal) for literal in clause]
+        if all([self._held[literal] <= 0 for literal in literals]):
+            open_ones = [literal for literal in literals if self._held[literal] == 0]
+            self.is_lost = self.is_lost or not self._start(open_ones) or self._clash() is not None
+
     def is_found(self):
         """Looks for values; True if they are found, False if the proof shows that there are none."""
         runs = 1
-        while not self._is_lost:
-            if self._is_found_within(CLASHES_A_RUN * luby(runs)):
+        while not self.is_lost:
+            if self.found_with((), CLASHES_A_RUN * luby(runs)):
                 return True
-            self._back_to(0)
-            self._drop()
             runs += 1
         self.proof.append(())
         return False
 
-    def _is_found_within(self, clashes):
-        """Looks for values until it has clashed so often; True if they are found."""
-        while True:
+    def found_with(self, clause, clashes):
+        """Looks for values with which no literal of a clause holds, until it has clashed so often.
+
+        True if they are found, False if there are none, None if that is open.
+        """
+        self._back_to(0)
+        self._drop()
+        failed = [inner_literal(-literal) for literal in clause]
+        while not self.is_lost:
             clash = self._clash()
-            if clash is None:
-                literal = self._next_try() if clashes > 0 else None
-                if literal is None:
-                    return clashes > 0
-                self._tries.append(len(self._trail))
-                self._take(literal, None)
-            elif self._tries:
-                self._learn(clash)
+            if clash is not None:
+                self._learn_or_lose(clash)
                 clashes -= 1
-            else:
-                self._is_lost = True
+                continue
+            literal = self._next_of(failed)
+            if literal is None:
+                if clashes <= 0:
+                    return None
+                literal = self._next_try()
+            if literal is None:
+                return True
+            if self._held[literal] < 0:
                 return False
+            self._tries.append(len(self._trail))
+            self._take(literal, None)
+        return False
+
+    def _next_of(self, literals):
+        """The next of the literals that must hold, even if it cannot; None if all do."""
+        while len(self._tries) < len(literals):
+            literal = literals[len(self._tries)]
+            if self._held[literal] <= 0:
+                return literal
+            # A try that changes nothing.
+            self._tries.append(len(self._trail))
+        return None
+
+    def _learn_or_lose(self, clash):
+        """Learns from a clause whose literals all fail; where nothing is tried, all is lost."""
+        if self._tries:
+            self._learn(clash)
+        else:
+            self.is_lost = True
 
     def _watch(self, clause):
         """Lets a clause be watched by its first two literals."""
@@ -209,7 +260,7 @@ class Search:
             self._held[literal] = 0
             self._held[literal ^ 1] = 0
             self._last[at] = literal
-            if self._queued[at] != self._clashed[at]:
+            if self._queued[at] != self._clashed[at] and at in self._aims:
                 self._queued[at] = self._clashed[at]
                 heappush(self._queue, (-self._clashed[at], at))
         del self._trail[begin:]
@@ -221,8 +272,7 @@ class Search:
         while self._queue:
             clashed, at = heappop(self._queue)
             if self._queued[at] == -clashed:
-                # Not in the queue any longer.
-                self._queued[at] = -1
+                self._queued[at] = NOT_QUEUED
                 if self._held[2 * at] == 0:
                     return self._last[at]
         return None
@@ -231,8 +281,13 @@ class Search:
         """Makes smaller how much the variables have clashed."""
         self._bump >>= SMALLER
         self._clashed = [clashed >> SMALLER for clashed in self._clashed]
-        self._queued = list(self._clashed)
-        self._queue = [(-clashed, at) for at, clashed in enumerate(self._clashed) if at > 0]
+        self._fill_queue()
+
+    def _fill_queue(self):
+        """Puts all variables that are tried into the queue."""
+        for at in self._aims:
+            self._queued[at] = self._clashed[at]
+        self._queue = [(-self._clashed[at], at) for at in self._aims]
         heapify(self._queue)
 
     def _drop(self):

@@ -43,6 +43,14 @@ FUNCTIONS = {
     "compare": ["difference(one, other, most)"],
     "same_step": ["same_step(one, other, most)"],
     "satisfy": ["satisfy(many, clauses)"],
+    "proofs": ["is_proof(clauses, proof)", "are_values(clauses, values)", "trimmed(clauses, proof)"],
+    "proof_text": ["print_clauses(many, clauses)", "print_proof(proof)", "read_clauses(text)", "read_proof(text)"],
+    "never": ["never(net, which, free, cycles)", "holds_on(net, which, many)", "is_never(net, which, many)"],
+    "unroll": ["agree(one, free, other, freed, cycles)"],
+    "proved": ["wrong_roms(plan, cycles)", "is_proved(plan, cycles)"],
+    "tables": ["map_tables(net, size)", "run_tables(tabled, cycles)", "table_levels(tabled)"],
+    "cells": ["pack_cells(tabled)", "run_cells(packed, cycles)"],
+    "place": ["place_cells(cells, width, height)", "wire_length(cells, spots)"],
 }
 CLASSES = {
     "errors": {
@@ -70,7 +78,7 @@ BUILTINS = """len range enumerate zip min max sum abs sorted reversed int str bo
     isinstance ord repr any all divmod type ValueError TypeError KeyError IndexError LookupError Exception""".split()
 METHODS = """append clear copy count endswith extend find get index insert isalnum isalpha isdigit islower isspace
     isupper items join keys ljust lower lstrip partition pop remove replace reverse rfind rjust rpartition rsplit
-    rstrip setdefault split splitlines startswith strip update upper values zfill bit_length""".split()
+    rstrip setdefault split splitlines startswith strip update upper values zfill bit_length removeprefix""".split()
 FORBIDDEN = """mro elements open input law version_info with_traceback add_note register attrgetter breakpoint builtins
     compile copyright credits delattr dir eval exec exit gc getattr globals hasattr help id importlib license locals
     methodcaller os quit setattr super vars sys""".split()
