@@ -50,3 +50,20 @@ class BadImage(CutError):
 
 class TooMany(CutError):
     """More nodes would be made than are allowed."""
+
+
+class NoRoute(CutError):
+    """A cell whose value cannot be led to all cells that read it."""
+
+    def __init__(self, cell):
+        CutError.__init__(self, f"cell {cell}")
+        self.cell = cell
+
+
+class BadCode(CutError):
+    """A statement, counted from 1, that cannot be assembled."""
+
+    def __init__(self, statement, word):
+        CutError.__init__(self, f"statement {statement}: {word}")
+        self.statement = statement
+        self.word = word

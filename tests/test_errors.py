@@ -8,7 +8,8 @@ from stagecut import errors
 class Errors(unittest.TestCase):
     def test_families(self):
         self.assertTrue(issubclass(errors.CutError, ValueError))
-        for error in (errors.TextError, errors.Unfit, errors.BadLine):
+        for error in (errors.TextError, errors.Unfit, errors.BadLine, errors.BadImage, errors.TooMany, errors.NoRoute,
+                      errors.BadCode):
             self.assertEqual(error.__bases__, (errors.CutError,))
         for error in (errors.BadCharacter, errors.BadNumber, errors.Unexpected):
             self.assertEqual(error.__bases__, (errors.TextError,))
@@ -20,6 +21,11 @@ class Errors(unittest.TestCase):
         error = errors.Unfit(-1, 4, "size")
         self.assertEqual((error.stage, error.index, error.word), (-1, 4, "size"))
         self.assertEqual(errors.BadLine(9).line, 9)
+        self.assertEqual(errors.NoRoute(2).cell, 2)
+        error = errors.BadCode(5, "size")
+        self.assertEqual((error.statement, error.word), (5, "size"))
+        errors.BadImage()
+        errors.TooMany()
 
 
 if __name__ == "__main__":

@@ -51,12 +51,29 @@ FUNCTIONS = {
     "tables": ["map_tables(net, size)", "run_tables(tabled, cycles)", "table_levels(tabled)"],
     "cells": ["pack_cells(tabled)", "run_cells(packed, cycles)"],
     "place": ["place_cells(cells, width, height)", "wire_length(cells, spots)"],
+    "route": ["route_cells(cells, spots, width, height, most)"],
+    "fabric": ["set_up(packed, spots, ways, width, height)", "run_fabric(fabric, cycles)"],
+    "fabric_image": ["write_fabric(fabric)", "read_fabric(row)"],
+    "timing": ["slowest(fabric)"],
+    "assemble": [
+        "parse_forms(text)", "parse_code(text)", "assemble(forms, statements, bits, width)",
+        "listed(forms, words, width)", "print_code(statements)",
+    ],
+    "library": ["machine_text(name)", "forms_text(name)"],
+    "run": [
+        "compile_text(text)", "net_of(plan, roms)", "by_steps(plan, roms, cycles)", "by_rows(plan, roms, cycles)",
+        "by_gates(plan, roms, cycles)", "by_tables(plan, roms, size, cycles)", "first_difference(plan, roms, cycles)",
+        "speed(plan, roms, cycles)", "assemble_text(plan, forms, codes)", "run_text(text, forms, codes, cycles)",
+    ],
+    "physical": ["fabric_of(plan, roms, size)", "by_fabric(plan, roms, size, cycles)"],
+    "report": ["sizes(plan, roms)", "print_report(found)"],
 }
 CLASSES = {
     "errors": {
         "CutError": {}, "TextError": {"__init__": "(self, row, column)"}, "BadCharacter": {}, "BadNumber": {},
         "Unexpected": {}, "Unfit": {"__init__": "(self, stage, index, word)"}, "BadLine": {"__init__": "(self, line)"},
-        "BadImage": {}, "TooMany": {},
+        "BadImage": {}, "TooMany": {}, "NoRoute": {"__init__": "(self, cell)"},
+        "BadCode": {"__init__": "(self, statement, word)"},
     },
     "diagrams": {
         "Diagrams": {
