@@ -8,4 +8,4 @@ def satisfy(many, clauses):
     search = Search(many, clauses)
     if search.is_found():
         return tuple([search.holds(at) for at in range(1, many + 1)]), ()
-    return None, tuple(search.proof)
+    return None, search.proof()

@@ -60,11 +60,11 @@ class Sweep:
 
     def found_proof(self):
         """The proof that there are no such values."""
-        return tuple(self._search.proof)
+        return self._search.proof()
 
     def _goes_on(self):
         """True if nothing is decided so far."""
-        return self._found is None and not self._search.is_lost
+        return self._found is None and not self._search.is_lost()
 
     def _try_to_refute(self, literal):
         """Shows that a literal does not hold, if that is not too hard."""
@@ -87,7 +87,7 @@ class Sweep:
         if is_found:
             self._take_difference()
         elif is_found is False:
-            self._search.add(clause)
+            self._search.keep(clause)
         return is_found is False
 
     def _are_parts_shown(self, tests, literal):
@@ -173,7 +173,7 @@ class Sweep:
                 return None
             if is_found:
                 return False
-            self._search.add(clause)
+            self._search.keep(clause)
         return True
 
     def _clauses_of(self, node, literal):
