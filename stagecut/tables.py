@@ -26,7 +26,8 @@ def map_tables(net, size):
 
 def chosen_tables(nodes, literals, size):
     """The tables by which literals can be worked out, by the nodes that they stand for."""
-    cuts = Cuts(nodes, size)
+    # An and of two leaves needs as many at least.
+    cuts = Cuts(nodes, max(2, size))
     # At which level a node must be there at the latest.
     due = {}
     deepest = max([cuts.level(literal >> 1) for literal in literals], default=0)
