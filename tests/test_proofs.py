@@ -77,6 +77,13 @@ class Judging(unittest.TestCase):
         self.judge(clauses, ((1, 3), ()), True)
         self.judge(clauses, ((),), False)
 
+    def test_a_literal_that_holds_by_itself(self):
+        clauses = ((1,), (-1, 2), (3, 4), (3, -4), (-3, 4), (-3, -4))
+        self.judge(clauses, ((1, 5), (6, 2), (-6, 7, 2, -7), (-5, 1), (3,), ()), True)
+        self.judge(clauses, ((2, 8), (-1, 8), (3,), ()), False)
+        self.judge(clauses, ((-2, 8), (3,), ()), False)
+        self.assertEqual(trimmed(clauses, ((1, 5), (2, -5), (3, 2), (3,), ())), ((3,), ()))
+
     def test_what_needs_two_cases_does_not_follow(self):
         self.judge(SQUARE, ((),), False)
         many, clauses = birds(4, 3)

@@ -140,6 +140,32 @@ class WrongRoms(unittest.TestCase):
             self.assertIs(is_proved(wrong, cycles), False)
             self.assertIs(is_proved(wrong, 5), True)
 
+    def test_words_with_which_it_is_wrong(self):
+        """Only if a word jumps, and the one behind it, which is taken back, has been in time to write."""
+        text = """machine m
+reg pc 2;
+reg sum 3;
+rom code 2 3;
+rom other 1 4;
+at 0:
+  let here = pc;
+  guess pc = here + 1w2;
+at 1:
+  let word = code[here];
+  let key = other[part(here, 0, 0)];
+  let old = sum;
+at 2:
+at 3:
+  pc := word == 5w3 & here == 0w2 & key == 9w4 ? 2w2 : here + 1w2;
+  sum := sum + 1w3 when word == 6w3 & here == 1w2 & other[1w1] == 4w4;
+"""
+        plan = check(parse(text))
+        self.assertIs(is_proved(plan, 9), True)
+        writes = (plan[4][0], (*plan[4][1][:2], 1, *plan[4][1][3:]))
+        wrong = (*plan[:4], writes, plan[5])
+        roms, _, _ = wrong_roms(wrong, 12)
+        self.assertEqual((roms[0][0], roms[0][1], roms[1]), (5, 6, (9, 4)))
+
 
 def judge_said_by(test, clauses, net, bits, cycles):
     """As judge_said, with the first values of the variables that are no latches of the net."""

@@ -1,6 +1,8 @@
 """Promises 14.1 and 14.2, and 4.1 to 4.8 with 5.3 once more: in which cycle what is done, who waits, what was wrong."""
 
+import contextlib
 import unittest
+from unittest import mock
 
 from machines import made_machine, made_roms
 from slow import Slow
@@ -196,6 +198,21 @@ class Differences(unittest.TestCase):
         self.assertIsNone(first_difference(plan, roms, 20))
         self.assertEqual(first_difference(wrong, roms, 20), "pipeline")
         self.assertIsNone(first_difference(wrong, roms, 4))
+
+    def test_the_first_that_does_not(self):
+        """With something else in the place of some, the first of them is told."""
+        plan, roms = plan_and_roms("jumper", (JUMPS,))
+        told = by_steps(plan, roms, 12)
+        other = (*told[:11], told[10])
+        self.assertNotEqual(told, other)
+        names = ("rows", "gates", "tables")
+        for at, name in enumerate(names):
+            for many in range(1, 4 - at):
+                with contextlib.ExitStack() as stack:
+                    for wrong in names[at:at + many]:
+                        stack.enter_context(mock.patch(f"stagecut.run.by_{wrong}", return_value=other))
+                    self.assertEqual(first_difference(plan, roms, 12), name)
+        self.assertIsNone(first_difference(plan, roms, 12))
 
 
 class Nets(unittest.TestCase):
