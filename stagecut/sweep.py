@@ -13,8 +13,10 @@ from stagecut.words import mask
 # How many cases are looked at, at first and near to each one that was found.
 CASES_AT_FIRST = 256
 CASES_NEAR = 32
-# How often it may clash until it is left open whether something can be.
-CLASHES_A_QUESTION = 60
+# How often it may clash until it is left open whether something can be: at first, and as it is tried once more.
+CLASHES_AT_FIRST = 60
+TIMES_MORE = 5
+MOST_CLASHES = 10000
 # Under how many tests something is shown part by part.
 MOST_TESTS = 3
 # How many of the parts may be left open until the others are not looked at.
@@ -31,6 +33,8 @@ class Sweep:
         self._saying = saying
         self._leaves = leaves
         self._ends = ends
+        # What may be shown not to hold. What the ends ahead of the last one ask holds in the search from the beginning.
+        self._asked = [literal for literal in ends[-1] if literal > 1]
         self._search = Search(saying.many, clauses)
         self._mixer = Mixer()
         self._cases = Cases(saying, leaves)
@@ -40,6 +44,7 @@ class Sweep:
         self._unlike = {}
         # For each node that is as one ahead of it, or as its other value, the literal of that one.
         self._alike = {}
+        self._clashes = CLASHES_AT_FIRST
         # Values of the leaves for which the ends hold.
         self._found = None
 
@@ -48,10 +53,10 @@ class Sweep:
         self._take_cases([self._mixer.bits(CASES_AT_FIRST) for _ in self._leaves], CASES_AT_FIRST)
         for node in [0, *[leaf >> 1 for leaf in self._leaves]]:
             self._keep(node)
-        for literals in self._ends:
-            for literal in literals:
-                if literal > 1:
-                    self._try_to_refute(literal)
+        for literal in self._asked:
+            self._look_behind(literal)
+        while self._clashes < MOST_CLASHES and not self._is_all_refuted():
+            self._clashes *= TIMES_MORE
         if self._found is None:
             self._search.aim_at({at: True for at in range(1, self._saying.many + 1)})
             if self._search.is_found():
@@ -66,14 +71,24 @@ class Sweep:
         """True if nothing is decided so far."""
         return self._found is None and not self._search.is_lost()
 
-    def _try_to_refute(self, literal):
-        """Shows that a literal does not hold, if that is not too hard."""
-        if self._goes_on() and not self._is_shown([], literal ^ 1):
+    def _is_refuted(self, literal):
+        """True if it is shown that a literal does not hold, or if nothing is to be shown any longer."""
+        return not self._goes_on() or self._is_shown([], literal ^ 1)
+
+    def _is_all_refuted(self):
+        """True if nothing that is asked is left that may hold."""
+        for literal in self._asked:
+            if not self._is_refuted(literal):
+                return False
+        return True
+
+    def _look_behind(self, literal):
+        """Looks for what is alike among the nodes behind a literal, if it cannot be refuted without that."""
+        if not self._is_refuted(literal):
             for node in self._nodes_behind(literal):
                 if self._goes_on():
                     self._look_at(node)
-            if self._goes_on():
-                self._is_shown([], literal ^ 1)
+            self._is_refuted(literal)
 
     def _is_shown(self, tests, literal):
         """True if it is shown that a literal holds where the tests do; what it consists of is shown first."""
@@ -83,7 +98,7 @@ class Sweep:
             return False
         if is_found is None:
             self._search.aim_at(self._variables_of([part >> 1 for part in [*tests, literal]]))
-            is_found = self._search.found_with(clause, CLASHES_A_QUESTION)
+            is_found = self._search.found_with(clause, self._clashes)
         if is_found:
             self._take_difference()
         elif is_found is False:
@@ -168,7 +183,7 @@ class Sweep:
                 if not is_aimed:
                     self._search.aim_at(self._variables_of([node, literal >> 1]))
                     is_aimed = True
-                is_found = self._search.found_with(clause, CLASHES_A_QUESTION)
+                is_found = self._search.found_with(clause, self._clashes)
             if is_found is None:
                 return None
             if is_found:
