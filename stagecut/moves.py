@@ -43,8 +43,12 @@ class Moves:
         return (next_low if own == low else low, next_high if own == high else high)
 
     def _improve_one(self, cell):
-        """Brings a cell to another spot if that makes the sum less."""
-        for _, spot in sorted(self._better_spots(cell) + self._near_spots(cell)):
+        """Brings a cell to another spot if that makes the sum less.
+
+        A swap is better only if one of its two cells alone would be better off at the other spot: what both have
+        together would not be longer then, and is as long as before if both move.
+        """
+        for _, spot in sorted(self._better_spots(cell)):
             if self._change(cell, spot) < 0:
                 self._swap(cell, spot)
                 return True
@@ -87,18 +91,6 @@ class Moves:
                 found[place] = length
                 place += step
         return found
-
-    def _near_spots(self, cell):
-        """The spots of later cells that have a bundle together with a cell.
-
-        Swapped with such a cell it may be better though its own bundles seem to be longer.
-        """
-        found = {}
-        for number in self._bundles_of[cell]:
-            for other in self._bundles[number]:
-                if other > cell:
-                    found[self.spots[other]] = True
-        return [(0, spot) for spot in found]
 
     def _change(self, cell, spot):
         """What is added to the sum if a cell is brought to a spot, and the cell that is there to its old one."""
