@@ -48,8 +48,8 @@ class Moves:
         A swap is better only if one of its two cells alone would be better off at the other spot: what both have
         together would not be longer then, and is as long as before if both move.
         """
-        for _, spot in sorted(self._better_spots(cell)):
-            if self._change(cell, spot) < 0:
+        for alone, spot in sorted(self._better_spots(cell)):
+            if alone + self._change_of_other(cell, spot) < 0:
                 self._swap(cell, spot)
                 return True
         return False
@@ -92,24 +92,30 @@ class Moves:
                 place += step
         return found
 
-    def _change(self, cell, spot):
-        """What is added to the sum if a cell is brought to a spot, and the cell that is there to its old one."""
+    def _change_of_other(self, cell, spot):
+        """What is added to the sum if the cell at a spot, if there is one, comes to the old one of a cell that comes
+        there; beside what that one's own bundles would change by if it came there alone.
+        """
         if spot not in self._cells_at:
-            return self._change_of(cell, spot, {})
+            return 0
         other = self._cells_at[spot]
-        # What both have together is as long as before.
-        common = {number: True for number in self._bundles_of[cell] if number in self._bundles_of[other]}
-        return self._change_of(cell, spot, common) + self._change_of(other, self.spots[cell], common)
-
-    def _change_of(self, cell, spot, common):
-        """What the bundles of a cell, but for some, are longer by if it alone is brought to a spot."""
         found = 0
+        for number in self._bundles_of[other]:
+            if number not in self._bundles_of[cell]:
+                found += self._change_of(number, other, self.spots[cell])
+        # What both have together is as long as before.
         for number in self._bundles_of[cell]:
-            if number not in common:
-                for at in range(2):
-                    low, high = self._others(number, cell, at)
-                    bounds = self._bounds[number][at]
-                    found += max(high, spot[at]) - min(low, spot[at]) - (bounds[3] - bounds[0])
+            if number in self._bundles_of[other]:
+                found -= self._change_of(number, cell, spot)
+        return found
+
+    def _change_of(self, number, cell, spot):
+        """What a bundle is longer by if one of its cells alone comes to a spot."""
+        found = 0
+        for at in range(2):
+            low, high = self._others(number, cell, at)
+            bounds = self._bounds[number][at]
+            found += max(high, spot[at]) - min(low, spot[at]) - (bounds[3] - bounds[0])
         return found
 
     def _swap(self, cell, spot):

@@ -32,29 +32,31 @@ class Router:
 
     def _path(self, come_to, end):
         """The shortest row of edges that are free from a spot that was come to, None if there is none."""
-        ahead = {spot: None for spot in come_to}
-        todo = list(come_to)
+        # It is looked for from its end on, as what was come to is often near.
+        behind = {end: None}
+        todo = [end]
         at = 0
-        while end not in ahead:
-            if at == len(todo):
-                return None
-            for spot in self._free_neighbours(todo[at]):
-                if spot not in ahead:
-                    ahead[spot] = todo[at]
+        while at < len(todo) and todo[at] not in come_to:
+            for spot in self._spots_ahead(todo[at]):
+                if spot not in behind:
+                    behind[spot] = todo[at]
                     todo.append(spot)
             at += 1
+        if at == len(todo):
+            return None
         path = []
-        while ahead[end] is not None:
-            path.append((ahead[end], end))
-            end = ahead[end]
-        return path[::-1]
+        spot = todo[at]
+        while behind[spot] is not None:
+            path.append((spot, behind[spot]))
+            spot = behind[spot]
+        return path
 
-    def _free_neighbours(self, spot):
-        """The neighbours to which an edge can carry one more way."""
+    def _spots_ahead(self, spot):
+        """The neighbours from which an edge to a spot can carry one more way."""
         found = []
         for direction in range(len(DIRECTIONS)):
             other = neighbour(spot, direction)
-            if is_on_grid(other, self._width, self._height) and self._carried.get((spot, other), 0) < self._most:
+            if is_on_grid(other, self._width, self._height) and self._carried.get((other, spot), 0) < self._most:
                 found.append(other)
         return found
 
